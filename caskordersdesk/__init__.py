@@ -1,0 +1,1 @@
+"""Casks to order: a shop's staves, and the kinds of casks that can be made of them."""
